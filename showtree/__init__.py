@@ -1,0 +1,1 @@
+"""Showtree: statements that are shown, or fail in a tree of worlds."""
