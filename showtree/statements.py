@@ -24,13 +24,17 @@ def is_statement(thing):
 
 def parts(statement):
     """List the parts of a statement, each once, in the order in which they end in its text."""
-    found = []
-    collect(statement, Shelf(), found)
-    return found
+    return shelved(statement).things
+
+
+def numbered(statement):
+    """List the parts in their order, each with the numbers of its halves among them in place of the halves."""
+    shelf = shelved(statement)
+    return [with_numbers(part, shelf) for part in shelf.things]
 
 
 class Shelf:
-    """Holds things, each once.
+    """Holds things, each once, numbered from 0 as they come.
 
     One tuple may stand in a statement in many places: 30 deep it can be met
     2 ** 29 times. Whoever asks the shelf enters each thing once only.
@@ -39,14 +43,22 @@ class Shelf:
     """
 
     def __init__(self):
+        self.things = []
         self.rows = {}
+
+    def number(self, thing):
+        """The number of the thing, or None where it isn't held."""
+        for row in self.rows.get(beginning(thing), []):
+            if self.things[row] == thing:
+                return row
+        return None
 
     def takes(self, thing):
         """Hold the thing, and tell whether it is new here."""
-        row = self.rows.setdefault(beginning(thing), [])
-        if thing in row:
+        if self.number(thing) is not None:
             return False
-        row.append(thing)
+        self.rows.setdefault(beginning(thing), []).append(len(self.things))
+        self.things.append(thing)
         return True
 
 
@@ -86,9 +98,23 @@ def level_below(level):
     return [half for one in level for half in halves(one) if shelf.takes(half)]
 
 
-def collect(statement, shelf, found):
-    """Add to found the parts that the shelf does not hold yet."""
-    if shelf.takes(statement):
+def shelved(statement):
+    """A shelf with the parts of a statement, in their order."""
+    shelf = Shelf()
+    shelve(statement, shelf)
+    return shelf
+
+
+def shelve(statement, shelf):
+    """Put a statement on the shelf, behind its other parts, where it isn't there yet."""
+    if shelf.number(statement) is None:
         for half in halves(statement):
-            collect(half, shelf, found)
-        found.append(statement)
+            shelve(half, shelf)
+        shelf.takes(statement)
+
+
+def with_numbers(part, shelf):
+    """The part with the numbers of its halves in their place; a name and false as they are."""
+    if part[0] in JOINING:
+        return part[0], shelf.number(part[1]), shelf.number(part[2])
+    return part

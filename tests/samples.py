@@ -103,3 +103,70 @@ def changed(statement, way, thing):
     row = list(statement)
     row[way[0]] = changed(row[way[0]], way[1:], thing)
     return tuple(row)
+
+
+# Texts of statements that are shown, and of ones that fail; many of these are true where each name is true or false.
+SHOWN = [
+    "(a > a)", "(# > #)", "(# > a)", "(a > (b > a))", "((a > (b > c)) > ((a > b) > (a > c)))", "((a & b) > a)",
+    "((a & b) > b)", "(a > (b > (a & b)))", "((a & b) > (b & a))", "(a > (a | b))", "(b > (a | b))",
+    "((a | b) > (b | a))", "((a > c) > ((b > c) > ((a | b) > c)))", "(a > ((a > #) > #))",
+    "((((a > #) > #) > #) > (a > #))", "(((a | (a > #)) > #) > #)", "(((((a > b) > a) > a) > #) > #)",
+    "(((((a > #) > #) > a) > #) > #)", "((a > b) > ((b > #) > (a > #)))", "(((a | b) > #) > ((a > #) & (b > #)))",
+    "(((a > #) & (b > #)) > ((a | b) > #))", "(((a > #) | (b > #)) > ((a & b) > #))", "(((a > #) | b) > (a > b))",
+    "((a | b) > ((a > #) > b))", "((a & (b | c)) > ((a & b) | (a & c)))", "(((a & b) | (a & c)) > (a & (b | c)))",
+    "((a | (b & c)) > ((a | b) & (a | c)))", "(((a | b) & (a | c)) > (a | (b & c)))", "(a | (# > a))",
+    "(((a & b) > c) > (a > (b > c)))", "((a > (b > c)) > ((a & b) > c))", "((a > b) > ((b > c) > (a > c)))",
+    "((((a > b) > b) > b) > (a > b))", "((a > (a > b)) > (a > b))", "((a & (a > #)) > b)", "((a | a) > (a & a))",
+    "(((a > c) & ((a > #) > c)) > ((c > #) > #))", "((a & ((b > c) & (a > b))) > c)", "((# | a) > (a & (b > b)))",
+]
+FAILING = [
+    "a", "#", "(a & a)", "(a | b)", "(a > b)", "(a > #)", "((a > a) > #)", "(a | (a > #))", "(((a > #) > #) > a)",
+    "(((a > b) > a) > a)", "((a > b) | (b > a))", "((a > #) | ((a > #) > #))", "((a | b) > a)", "(a > (a & b))",
+    "(((a & b) > #) > ((a > #) | (b > #)))", "((a > b) > ((a > #) | b))", "(((b > #) > (a > #)) > (a > b))",
+    "((a > (b | c)) > ((a > b) | (a > c)))", "((((a > #) > #) > a) > (a | (a > #)))", "(((a > #) > b) > (a | b))",
+    "(((a > #) > (b | c)) > (((a > #) > b) | ((a > #) > c)))", "(((a & b) > c) > ((a > c) | (b > c)))",
+    "(((((a > #) > #) > a) > (a | (a > #))) > ((a > #) | ((a > #) > #)))", "(((a > b) > c) > ((a > c) > c))",
+    "(b | (b > (a | (a > #))))", "(c | (c > (b | (b > (a | (a > #))))))", "((a > b) | ((b > c) | (c > a)))",
+    "((((a > b) | (b > a)) > c) > c)", "((a > b) > (b > a))", "((a > #) > (a & b))", "(((a > b) > b) > (a | b))",
+]
+
+# Statements of 16 parts of which the search met the largest trees, and ones with many rows.
+LARGE = [
+    "((((a > b) | a) | ((b > #) > (((((a > b) > b) > ((a > b) | a)) > ((a > b) | a)) | (((a > b) > b) > ((a > b) | a)"
+    ")))) | ((((a > b) > #) > #) > (((((a > b) > b) > ((a > b) | a)) > ((a > b) | a)) | (((a > b) > b) > ((a > b) | a"
+    ")))))",
+    "((((d > ((((a > b) > a) > a) | ((a > b) > a))) > ((c > ((((a > b) > a) > a) | ((a > b) > a))) | ((c > ((((a > b)"
+    " > a) > a) | ((a > b) > a))) > ((((a > b) > a) > a) | ((a > b) > a))))) | (d > ((((a > b) > a) > a) | ((a > b) >"
+    " a)))) | ((((a > b) > a) > a) > b))",
+    "((((((b | (a | a)) | b) | (b | (a | a))) | ((b | (a | a)) | b)) | (((b | (a | a)) | b) | (b | (a | a)))) > ((b > "
+    "(((a | a) > a) & b)) & (((a | a) | a) > (b > (((a | a) > a) & b)))))",
+    "((((((c > a) | c) > ((((c > a) | c) | (c > a)) > a)) | (((((c > a) | c) > ((((c > a) | c) | (c > a)) > a)) > a) "
+    "> (((c > a) | c) > ((((c > a) | c) | (c > a)) > a)))) | (((((c > a) | c) > ((((c > a) | c) | (c > a)) > a)) > a)"
+    " > (((c > a) | c) > ((((c > a) | c) | (c > a)) > a)))) > ((a & ((((c > a) | c) | (c > a)) > a)) & (b > (a & (((("
+    "c > a) | c) | (c > a)) > a)))))",
+    "(((((d > c) > #) > c) > c) > (((c | #) > ((b > (a > c)) > #)) > ((d > c) > #)))",
+]
+
+
+def drawn_statement(rng, many, names="abc"):
+    """A statement of no more than so many parts, drawn by chance; parts of it come at several places."""
+    pool = [("name", name) for name in names] + [FALSE]
+    fitting = [pool[0]]
+    for _ in range(60):
+        one, other = rng.choice(pool[-8:] + pool[:4]), rng.choice(pool[-8:] + pool[:4])
+        statement = (rng.choice(WORDS + ("then",)), one, other)
+        if count_parts(statement) <= many:
+            pool.append(statement)
+            fitting.append(statement)
+    return max(fitting, key=count_parts)
+
+
+def count_parts(statement):
+    found = []
+    ahead = [statement]
+    while ahead:
+        one = ahead.pop()
+        if one not in found:
+            found.append(one)
+            ahead += one[1:] if len(one) == 3 else ()
+    return len(found)

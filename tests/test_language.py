@@ -54,6 +54,10 @@ INTERFACE = {
     "errors": ["ShowError", "Unread", "TooLarge", "NoWorld"],
     "statements": ["is_name", "is_statement", "parts"],
     "texts": ["written", "read"],
+    "worlds": ["is_tree", "above", "holds"],
+    "showings": ["follows", "faults", "shows"],
+    "search": ["theory"],
+    "telling": ["told", "is_shown"],
 }
 
 

@@ -2,7 +2,7 @@ import copy
 import unittest
 
 from showtree import statements
-from showtree.statements import is_name, is_statement, parts
+from showtree.statements import is_name, is_statement, numbered, parts
 from showtree.texts import written
 from tests.samples import (
     A, B, C, FALSE, SLIM, WIDE, WORDS, WRONG_THINGS, bushy_statement, changed, deep_by_both, deep_by_first,
@@ -257,6 +257,26 @@ class PartsTest(unittest.TestCase):
         statement = ("then", ("and", A, B), A)
         parts(statement)
         self.assertEqual(statement, ("then", ("and", ("name", "a"), ("name", "b")), ("name", "a")))
+
+
+class NumberedTest(unittest.TestCase):
+    def test_halves_are_told_by_their_numbers(self):
+        self.assertEqual(numbered(A), [A])
+        self.assertEqual(numbered(FALSE), [FALSE])
+        self.assertEqual(numbered(("then", ("and", B, A), ("or", A, FALSE))),
+                         [B, A, ("and", 0, 1), FALSE, ("or", 1, 3), ("then", 2, 4)])
+
+    def test_the_halves_are_the_parts_of_these_numbers(self):
+        for statement in small_statements(3)[::7] + [deep(30) for deep in SLIM + WIDE] + [bushy_statement(6)]:
+            own = parts(statement)
+            told = numbered(statement)
+            self.assertEqual([part[0] for part in own], [form[0] for form in told])
+            for number, (part, form) in enumerate(zip(own, told)):
+                if len(part) == 3:
+                    self.assertTrue(max(form[1:]) < number)
+                    self.assertEqual([own[half] for half in form[1:]], list(part[1:]))
+                else:
+                    self.assertEqual(form, part)
 
 
 class InterfaceTest(unittest.TestCase):
