@@ -79,7 +79,7 @@ class Search:
         # What is entered meanwhile is left out: with it, each supposing would need another theory.
         known = tuple(found.known)
         for number, form in enumerate(self.forms):
-            if form[0] == "then" and not known[number] and not known[form[1]]:
+            if form[0] == "then" and not found.known[number] and not known[form[1]]:
                 self.enter_then(found, known, number)
             if form[0] == "or" and known[number] and not known[form[1]] and not known[form[2]]:
                 self.enter_cases(found, known, number)
@@ -89,7 +89,7 @@ class Search:
         """Enter a then whose second is shown with its first supposed."""
         _, first, second = self.forms[number]
         inner = self.theory_with(known, first)
-        if inner.known[second] and not found.known[number]:
+        if inner.known[second]:
             found.enter(number, "suppose", [(second, first, inner)])
 
     def enter_cases(self, found, known, number):

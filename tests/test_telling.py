@@ -94,7 +94,9 @@ class ToldTest(unittest.TestCase):
         for text in LARGE:
             self.assertLessEqual(count_parts(read(text)), 16)
             words.append(self.check(read(text)))
-        self.assertEqual(words, ["worlds", "worlds", "shown", "shown", "shown"])
+        self.assertEqual(words, ["worlds", "worlds", "shown", "shown", "shown", "worlds"])
+        # Far below the most worlds, as no search can go through all statements of 16 parts.
+        self.assertLess(max(len(told(read(text))[1]) for text in LARGE if not is_shown(read(text))), 30)
 
     def test_just_16_parts(self):
         whole = bushy_statement(3)
@@ -131,7 +133,7 @@ class ToldTest(unittest.TestCase):
         self.assertEqual(rules, {"given", "both", "left", "right", "one", "other", "cases", "suppose", "onward", "any"})
 
     def test_all_rows_are_needed(self):
-        for text in SHOWN + LARGE[2:]:
+        for text in SHOWN + LARGE[2:5]:
             rows = told(read(text))[1]
             used = {up for one in rows for up in one[3]} | {len(rows) - 1}
             self.assertEqual(used, set(range(len(rows))), text)
